@@ -1,0 +1,1 @@
+"""Fieldrest: functions over records whose further fields are left open."""
